@@ -107,6 +107,12 @@ func (b *Book) last(name string) (entry, bool) {
 	return entry{}, false
 }
 
+// word finds the last thing of that name, if it was made by `:`.
+func (b *Book) word(name string) (entry, bool) {
+	e, found := b.last(name)
+	return e, found && !e.variable
+}
+
 // Words tells the names in their order (P7).
 func (b *Book) Words() []string {
 	names := make([]string, len(b.entries))
@@ -118,8 +124,8 @@ func (b *Book) Words() []string {
 
 // Find tells what is known of a word (P7).
 func (b *Book) Find(name string) (api.Info, api.Errno) {
-	e, found := b.last(name)
-	if !found || e.variable {
+	e, found := b.word(name)
+	if !found {
 		return api.Info{}, api.ErrUnknown
 	}
 	return api.Info{
@@ -130,6 +136,21 @@ func (b *Book) Find(name string) (api.Info, api.Errno) {
 		Straight: !e.known.Branches,
 	}, api.OK
 }
+
+// Start tells where the code of a word begins.
+func (b *Book) Start(name string) (int, api.Errno) {
+	e, found := b.word(name)
+	if !found {
+		return 0, api.ErrUnknown
+	}
+	return e.place, api.OK
+}
+
+// Code is that of all words, for reading alone.
+func (b *Book) Code() []int { return b.code }
+
+// Variables tells how many there are.
+func (b *Book) Variables() int { return b.variables }
 
 // use is what happens where the name is an item.
 func (e entry) use() (op int, does effect.Timed) {

@@ -49,3 +49,21 @@ func TestRefusedDefinitionLeavesNoCode(t *testing.T) {
 		t.Errorf("code: %v, want %v", b.code, want)
 	}
 }
+
+func TestStart(t *testing.T) {
+	b := loaded(t, ": a 1 ; variable v : b a ; : a 2 ; : w ; variable w variable x")
+	for _, k := range []struct {
+		name  string
+		start int
+		err   api.Errno
+	}{
+		{"b", 3, api.OK}, {"a", 6, api.OK}, {"v", 0, api.ErrUnknown}, {"w", 0, api.ErrUnknown}, {"dup", 0, api.ErrUnknown}, {"", 0, api.ErrUnknown},
+	} {
+		if start, err := b.Start(k.name); start != k.start || err != k.err {
+			t.Errorf("Start(%q) = %d, %d, want %d, %d", k.name, start, err, k.start, k.err)
+		}
+	}
+	if b.Variables() != 3 || len(b.Code()) != 10 {
+		t.Errorf("%d variables, code %v", b.Variables(), b.Code())
+	}
+}

@@ -3,7 +3,7 @@ package code
 
 import "forthwith/effect"
 
-// What one step does. Each is one step of P6, so that a run takes just the steps that were counted ahead of it.
+// What one step does. Each is one step of P6, so that a run takes just the steps that were counted ahead of it. Those of a kind stand together, up to the last of it.
 const (
 	Plus = iota
 	Minus
@@ -40,6 +40,14 @@ const (
 	Loop // if there is a further number to do, goes on at the cell behind it
 	Call // begins the word at the cell behind it
 	End
+)
+
+// The last ones of a kind.
+const (
+	LastOfTwo   = Max    // makes one cell of two
+	LastOfOne   = IsZero // makes one cell of one
+	LastOfStack = Tuck   // moves cells on the stack
+	LastOfWorld = Out    // reaches variables, inputs or outputs
 )
 
 type row struct {

@@ -2,6 +2,7 @@ package forth_test
 
 import (
 	"math/rand/v2"
+	"reflect"
 	"slices"
 	"strings"
 	"testing"
@@ -108,6 +109,36 @@ func TestP1WhateverIsLoaded(t *testing.T) {
 	for _, err := range []api.Errno{api.OK, api.ErrText, api.ErrUnknown, api.ErrName, api.ErrNest} {
 		if counts[err] == 0 {
 			t.Errorf("%d was never answered: %v", err, counts)
+		}
+	}
+}
+
+func TestP1WhateverIsRun(t *testing.T) {
+	random := rand.New(rand.NewPCG(11, 12))
+	numbers := []int{0, 1, 2, 31, 32, 33, 99, -1, api.MaxFuel, api.MaxFuel + 1, api.MinCell, api.MaxCell, api.MinCell - 1, api.MaxCell + 1, -1 << 63, 1<<63 - 1}
+	counts := map[api.Errno]int{}
+	for range 2000 {
+		s, d, all := made(t, random)
+		for _, name := range append(d.names(), "", "dup", "nobody", "\xff", ":") {
+			stack, inputs := anyCells(random, random.IntN(40)), anyCells(random, random.IntN(40))
+			if random.IntN(4) == 0 {
+				inputs = append(inputs, numbers[random.IntN(len(numbers))])
+			}
+			fuel := numbers[random.IntN(len(numbers))]
+			stackWas, inputsWas := slices.Clone(stack), slices.Clone(inputs)
+			got, err := s.Run(name, stack, inputs, fuel)
+			counts[err]++
+			if err != api.OK && !reflect.DeepEqual(got, api.Outcome{}) || err == api.OK && (got.Steps > fuel || len(got.Stack) > api.MaxDepth || len(got.Store) != d.variables) {
+				t.Fatalf("Run(%q, %v, %v, %d) = %+v, %d, in %q", name, stack, inputs, fuel, got, err, all)
+			}
+			if !slices.Equal(stack, stackWas) || !slices.Equal(inputs, inputsWas) {
+				t.Fatalf("Run(%q) wrote into what was handed in", name)
+			}
+		}
+	}
+	for _, err := range []api.Errno{api.OK, api.ErrUnknown, api.ErrArg} {
+		if counts[err] < 500 {
+			t.Errorf("%d was answered too seldom: %v", err, counts)
 		}
 	}
 }

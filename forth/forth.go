@@ -4,6 +4,7 @@ package forth
 import (
 	"forthwith/api"
 	"forthwith/book"
+	"forthwith/machine"
 )
 
 // System is words.
@@ -25,5 +26,27 @@ func (s *System) Find(name string) (api.Info, api.Errno) { return s.words.Find(n
 
 // Run runs a word (P8 to P10).
 func (s *System) Run(name string, stack []int, inputs []int, fuel int) (api.Outcome, api.Errno) {
-	return api.Outcome{}, api.OK
+	start, err := s.words.Start(name)
+	if err != api.OK {
+		return api.Outcome{}, err
+	}
+	if !mayRun(stack, inputs, fuel) {
+		return api.Outcome{}, api.ErrArg
+	}
+	world := machine.NewWorld(s.words.Variables(), inputs)
+	m := machine.New(s.words.Code(), start, stack, world)
+	steps, end := m.Run(fuel)
+	return api.Outcome{
+		Stack:   m.Stack(),
+		Outputs: m.Outputs,
+		Store:   m.Variables,
+		Steps:   steps,
+		End:     end,
+	}, api.OK
+}
+
+func mayRun(stack, inputs []int, fuel int) bool {
+	return len(stack) <= api.MaxDepth &&
+		machine.AreCells(stack) && machine.AreCells(inputs) &&
+		fuel >= 0 && fuel <= api.MaxFuel
 }
