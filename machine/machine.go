@@ -12,15 +12,23 @@ type Machine struct {
 	loops
 	calls
 	*World
-	row []int // of codes and cells
-	at  int   // where the next step's code stands
+	row   []int // of codes and cells
+	start int   // where the word's code begins
+	at    int   // where the next step's code stands
 }
 
 // New makes a machine that is about to run the word that begins at start in the row, with these cells (at most MaxDepth) on its stack.
 func New(row []int, start int, stack []int, world *World) *Machine {
-	m := &Machine{World: world, row: row, at: start}
-	m.put(stack...)
+	m := &Machine{World: world, row: row, start: start}
+	m.Begin(stack...)
 	return m
+}
+
+// Begin lets the word begin anew, with just these cells (at most MaxDepth) on the stack. The world stays as it is.
+func (m *Machine) Begin(stack ...int) {
+	m.cells, m.loops, m.calls = cells{}, loops{}, calls{}
+	m.at = m.start
+	m.put(stack...)
 }
 
 // Run makes steps until the word has ended, but no more than fuel.

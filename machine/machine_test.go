@@ -97,6 +97,24 @@ func TestRunCountsSteps(t *testing.T) {
 	}
 }
 
+func TestBeginAnew(t *testing.T) {
+	row := []int{code.In, code.Dup, code.Push, 0, code.Store, code.Out, code.End, code.Push, 2, code.Push, 0, code.Do, 17, code.Call, 0, code.Loop, 13, code.End}
+	for steps := range 7 {
+		m := New(row, 7, []int{3, 4}, NewWorld(1, []int{8, 9}))
+		m.Run(steps)
+		world := *m.World
+		m.Begin(5)
+		want := stand(New(row, 7, []int{5}, &world))
+		if !reflect.DeepEqual(stand(m), want) {
+			t.Errorf("behind %d steps: %+v, want %+v", steps, stand(m), want)
+		}
+		m.Begin()
+		if m.depth != 0 {
+			t.Errorf("behind %d steps: %v", steps, m.Stack())
+		}
+	}
+}
+
 func TestWorldIsShared(t *testing.T) {
 	world := NewWorld(1, []int{8, 9})
 	row := []int{code.In, code.Dup, code.Out, code.Push, 0, code.Store, code.End, code.Push, 0, code.Fetch, code.In, code.End}
