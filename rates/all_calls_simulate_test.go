@@ -51,15 +51,7 @@ func TestP1SimulateChangesNoSystem(t *testing.T) {
 			rates.Simulate(s, tasks, []int{3}, horizon)
 		}
 	}
-	if !slices.Equal(s.Words(), untouched.Words()) {
-		t.Errorf("words: %q", s.Words())
-	}
-	for _, name := range []string{"v", "a", "b", ""} {
-		got, err := s.Find(name)
-		if want, wantErr := untouched.Find(name); got != want || err != wantErr {
-			t.Errorf("Find(%q) = %+v, %d, want %+v, %d", name, got, err, want, wantErr)
-		}
-	}
+	checkSame(t, s, untouched)
 	ran, err := s.Run("a", nil, nil, 99)
 	if err != api.OK || !slices.Equal(ran.Outputs, []int{1}) || !slices.Equal(ran.Store, []int{1}) {
 		t.Errorf("Run = %+v, %d", ran, err)

@@ -43,12 +43,8 @@ func TestP1PlansAreTheCallers(t *testing.T) {
 	checkPlans(t, s, []api.Task{each("s15", 50), each("s8", 20)}, want...)
 }
 
-func TestP1AdmitChangesNoSystem(t *testing.T) {
-	text := "variable v : a 1 v ! ; : b drop ;"
-	s, untouched := loaded(t, text), loaded(t, text)
-	for _, tasks := range [][]api.Task{{each("a", 9)}, {each("a", 2)}, {each("b", 9)}, {each("v", 9)}, nil} {
-		rates.Admit(s, tasks)
-	}
+func checkSame(t *testing.T, s, untouched *forth.System) {
+	t.Helper()
 	if !slices.Equal(s.Words(), untouched.Words()) {
 		t.Errorf("words: %q", s.Words())
 	}
@@ -58,6 +54,15 @@ func TestP1AdmitChangesNoSystem(t *testing.T) {
 			t.Errorf("Find(%q) = %+v, %d, want %+v, %d", name, got, err, want, wantErr)
 		}
 	}
+}
+
+func TestP1AdmitChangesNoSystem(t *testing.T) {
+	text := "variable v : a 1 v ! ; : b drop ;"
+	s, untouched := loaded(t, text), loaded(t, text)
+	for _, tasks := range [][]api.Task{{each("a", 9)}, {each("a", 2)}, {each("b", 9)}, {each("v", 9)}, nil} {
+		rates.Admit(s, tasks)
+	}
+	checkSame(t, s, untouched)
 }
 
 func TestP1AdmitGoesByWhatIsLoaded(t *testing.T) {
